@@ -1,0 +1,1 @@
+"""Folklist: hands that agree on who is there."""
